@@ -1,0 +1,1 @@
+"""Rows and columns: boxes that come out to the unit."""

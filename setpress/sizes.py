@@ -1,0 +1,104 @@
+"""The sizes of rows and columns by themselves."""
+
+
+class Size:
+    """A width; a height above the line and a depth below it."""
+
+    def __init__(self, width, height, depth):
+        self.width = width
+        self.height = height
+        self.depth = depth
+
+
+def side_size(side):
+    return 0 if side is None else side
+
+
+def size_in_row(thing):
+    kind = thing["kind"]
+    if kind == "glyph":
+        return Size(thing["width"], thing["height"], thing["depth"])
+    if kind == "kern" or kind == "glue":
+        return Size(thing["size"], 0, 0)
+    if kind == "leaders":
+        repeated = size_in_row(thing["repeated"])
+        return Size(thing["size"], repeated.height, repeated.depth)
+    if kind == "rule":
+        return Size(side_size(thing["width"]), side_size(thing["height"]), side_size(thing["depth"]))
+    if kind == "box":
+        shift = thing["shift"]
+        return Size(thing["width"], thing["height"] - shift, thing["depth"] + shift)
+    if kind == "disc":
+        return row_size(thing["unparted"])
+    return Size(0, 0, 0)
+
+
+def row_size(things):
+    width = 0
+    height = 0
+    depth = 0
+    for thing in things:
+        part = size_in_row(thing)
+        width += part.width
+        height = max(height, part.height)
+        depth = max(depth, part.depth)
+    return Size(width, height, depth)
+
+
+def is_box_or_rule(thing):
+    return thing["kind"] in ("box", "rule")
+
+
+def is_space(thing):
+    return thing["kind"] in ("kern", "glue", "leaders")
+
+
+def width_in_column(thing):
+    kind = thing["kind"]
+    if kind == "box":
+        return thing["width"] + thing["shift"]
+    if kind == "rule":
+        return side_size(thing["width"])
+    if kind == "leaders":
+        return width_in_column(thing["repeated"])
+    return 0
+
+
+def length_in_column(thing):
+    """What a thing takes from the top downwards."""
+    if is_box_or_rule(thing):
+        return side_size(thing["height"]) + side_size(thing["depth"])
+    if is_space(thing):
+        return thing["size"]
+    return 0
+
+
+def column_depth(things):
+    depth = 0
+    for thing in things:
+        if is_box_or_rule(thing):
+            depth = side_size(thing["depth"])
+        elif is_space(thing):
+            depth = 0
+    return depth
+
+
+def column_size(things, greatest_depth):
+    """A column's size from its last line; a greatest depth below 0 is none."""
+    width = 0
+    length = 0
+    for thing in things:
+        width = max(width, width_in_column(thing))
+        length += length_in_column(thing)
+    depth = column_depth(things)
+    if greatest_depth >= 0:
+        depth = min(depth, greatest_depth)
+    return Size(width, length - depth, depth)
+
+
+def size_by_top(column, things):
+    """The size of a column that stands on the line of its first thing, out of that from its last line."""
+    height = 0
+    if len(things) > 0 and is_box_or_rule(things[0]):
+        height = side_size(things[0]["height"])
+    return Size(column.width, height, column.height + column.depth - height)
