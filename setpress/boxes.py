@@ -2,7 +2,7 @@
 
 from setpress.desk import Desk
 from setpress.reading import Reader
-from setpress.refusals import NoSuchBox, NotKept, WrongList, WrongNumber
+from setpress.refusals import NotKept, NotThere, WrongList, WrongNumber
 
 # By a call's number: its name; how many whole numbers, and how many rows behind them, are handed in with it.
 CALLS = {
@@ -12,6 +12,11 @@ CALLS = {
     3: ("pack", 6, 0),
     4: ("unpack", 3, 0),
     5: ("join", 2, 0),
+    6: ("shift", 3, 0),
+    7: ("fit", 4, 0),
+    8: ("places", 4, 0),
+    9: ("cut", 5, 1),
+    10: ("move", 2, 0),
 }
 
 
@@ -37,7 +42,17 @@ def perform(desk, call):
         return desk.pack(whole[0], whole[1], whole[2], whole[3], whole[4], whole[5])
     if call.name == "unpack":
         return desk.unpack(whole[0], whole[1], whole[2])
-    return desk.join(whole[0], whole[1])
+    if call.name == "join":
+        return desk.join(whole[0], whole[1])
+    if call.name == "shift":
+        return desk.shift(whole[0], whole[1], whole[2])
+    if call.name == "fit":
+        return desk.fit(whole[0], whole[1], whole[2], whole[3])
+    if call.name == "places":
+        return desk.places(whole[0], whole[1], whole[2], whole[3])
+    if call.name == "cut":
+        return desk.cut(whole[0], whole[1], whole[2], whole[3], whole[4], call.rows[0])
+    return desk.move(whole[0], whole[1])
 
 
 def answer(desk, call):
@@ -47,7 +62,7 @@ def answer(desk, call):
         return [-1]
     except WrongList:
         return [-3]
-    except NoSuchBox:
+    except NotThere:
         return [-4]
     except NotKept:
         return [-6]

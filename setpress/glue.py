@@ -14,13 +14,24 @@ class Fit:
         self.excess = excess
 
 
-def sums_by_order(things, give):
-    """The stretches or the shrinks (as give says) of glue and leaders, summed up for each order."""
-    sums = [0, 0, 0, 0]
-    for thing in things:
+class Gives:
+    """The stretches and the shrinks of glue and leaders, summed up for each order."""
+
+    def __init__(self):
+        self.stretches = [0, 0, 0, 0]
+        self.shrinks = [0, 0, 0, 0]
+
+    def include(self, thing):
         if thing["kind"] in ("glue", "leaders"):
-            sums[thing[give + " order"]] += thing[give]
-    return sums
+            self.stretches[thing["stretch order"]] += thing["stretch"]
+            self.shrinks[thing["shrink order"]] += thing["shrink"]
+
+
+def sum_gives(things):
+    gives = Gives()
+    for thing in things:
+        gives.include(thing)
+    return gives
 
 
 def first_order(sums):
@@ -57,10 +68,16 @@ def shrunk(sums, less):
     return Fit(order, -less, total, how_badly(less, total), 0)
 
 
-def set_glue(things, more):
-    """How things are set that are to have so much more (below 0: less) than by themselves."""
+def set_glue(gives, more):
+    """How things that so give way are set, if they are to have so much more (below 0: less) than by themselves."""
     if more > 0:
-        return stretched(sums_by_order(things, "stretch"), more)
+        return stretched(gives.stretches, more)
     if more < 0:
-        return shrunk(sums_by_order(things, "shrink"), -more)
+        return shrunk(gives.shrinks, -more)
     return Fit(0, 0, 1, 0, 0)
+
+
+def more_by_setting(box, gives):
+    """By how much things that so give way are longer (below 0: shorter) in this box than by themselves."""
+    sums = gives.stretches if box["numerator"] > 0 else gives.shrinks
+    return box["numerator"] * sums[box["order"]] // box["denominator"]

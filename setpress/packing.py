@@ -1,6 +1,6 @@
 """How things are packed into a box, and what's said of it."""
 
-from setpress.glue import set_glue
+from setpress.glue import set_glue, sum_gives
 from setpress.sizes import Size, column_size, row_size, size_by_top
 
 ROW = 0
@@ -66,6 +66,6 @@ class Packed:
     def __init__(self, things, kind, how, wanted, greatest_depth):
         size = size_by_itself(things, kind, greatest_depth)
         more = more_than_by_itself(size, kind, how, wanted)
-        fit = set_glue(things, more)
+        fit = set_glue(sum_gives(things), more)
         self.box = make_box(things, kind, packed_size(things, kind, size, more), fit)
         self.said = what_is_said(more, fit)

@@ -9,8 +9,8 @@ class WrongList(Exception):
     """-3: numbers that are no right list's."""
 
 
-class NoSuchBox(Exception):
-    """-4: the thing asked for is no box, or not there."""
+class NotThere(Exception):
+    """-4: the thing asked for is no box, or there aren't so many things."""
 
 
 class NotKept(Exception):

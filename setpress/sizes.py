@@ -73,27 +73,35 @@ def length_in_column(thing):
     return 0
 
 
-def column_depth(things):
-    depth = 0
-    for thing in things:
+class GrowingColumn:
+    """A column as far as it stands: so each thing more is one step, not the whole column anew."""
+
+    def __init__(self):
+        self.width = 0
+        self.length = 0
+        self.last_depth = 0
+
+    def include(self, thing):
+        self.width = max(self.width, width_in_column(thing))
+        self.length += length_in_column(thing)
         if is_box_or_rule(thing):
-            depth = side_size(thing["depth"])
+            self.last_depth = side_size(thing["depth"])
         elif is_space(thing):
-            depth = 0
-    return depth
+            self.last_depth = 0
+
+    def size_by_last_line(self, greatest_depth):
+        """Its size from its last line; a greatest depth below 0 is none."""
+        depth = self.last_depth
+        if greatest_depth >= 0:
+            depth = min(depth, greatest_depth)
+        return Size(self.width, self.length - depth, depth)
 
 
 def column_size(things, greatest_depth):
-    """A column's size from its last line; a greatest depth below 0 is none."""
-    width = 0
-    length = 0
+    column = GrowingColumn()
     for thing in things:
-        width = max(width, width_in_column(thing))
-        length += length_in_column(thing)
-    depth = column_depth(things)
-    if greatest_depth >= 0:
-        depth = min(depth, greatest_depth)
-    return Size(width, length - depth, depth)
+        column.include(thing)
+    return column.size_by_last_line(greatest_depth)
 
 
 def size_by_top(column, things):

@@ -136,6 +136,17 @@ def read_repeated(reader, room):
     return thing
 
 
+def read_glue(numbers):
+    """The glue that these five numbers tell; WrongList, if they tell none."""
+    reader = Reader(numbers)
+    glue = {"kind": "glue"}
+    for field, form in FORMS["glue"]:
+        glue[field] = read_number(reader, form)
+    if not reader.ended():
+        raise WrongList()
+    return glue
+
+
 def holds_leaders(thing):
     for field, form in FORMS[thing["kind"]]:
         if form == "list":

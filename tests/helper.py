@@ -97,6 +97,26 @@ def join(j, k):
     return [5, j, k]
 
 
+def shift(k, i, s):
+    return [6, k, i, s]
+
+
+def fit(k, i, v, m=-1):
+    return [7, k, i, v, m]
+
+
+def places(k, i, x=0, y=0):
+    return [8, k, i, x, y]
+
+
+def cut(k, j, m, v, d=-1, g=(0, 0, 0, 0, 0)):
+    return [9, k, j, m, v, d, len(g)] + list(g)
+
+
+def move(k, j):
+    return [10, k, j]
+
+
 def parted(numbers):
     """What is given back for each call, without the counts."""
     parts = []
@@ -125,3 +145,19 @@ def nested(deep, make=box, inner=()):
     for step in range(deep - 1):
         thing = make(thing)
     return thing
+
+
+def at_glyph(name, x, y):
+    return [0, name, x, y]
+
+
+def at_rule(x, y, width, height, depth):
+    return [1, x, y, width, height, depth]
+
+
+def at_anchor(name, x, y):
+    return [2, name, x, y]
+
+
+def leaves_of(thing, x=0, y=0):
+    return last(put(0, thing), places(0, 0, x, y))

@@ -1,268 +1,13 @@
-"""Many histories of calls, made up by a fixed rule, against a second reckoning that knows numbers alone.
-
-The second reckoning keeps each list as its numbers and goes by them, where the program goes by things; it is written
-apart from the program, straight out of the document.
-"""
+"""Many histories of calls, made up by a fixed rule, against the second reckoning of second.py."""
 
 import random
 import unittest
 
 from helper import (
-    GREATEST, LEAST, adjust, anchor, box, disc, five, glue, glyph, insertion, join, kern, leaders, listed, mark, pack,
-    penalty, put_numbers, rule, run, size, told, unpack,
+    GREATEST, LEAST, adjust, anchor, box, cut, disc, fit, five, glue, glyph, insertion, join, kern, last, leaders,
+    listed, mark, move, pack, penalty, places, put_numbers, rule, run, shift, size, told, unpack,
 )
-
-
-class Bad(Exception):
-    pass
-
-
-def between(number, least, greatest):
-    if number < least or number > greatest:
-        raise Bad()
-    return number
-
-
-def take(numbers, place):
-    if place >= len(numbers):
-        raise Bad()
-    return numbers[place]
-
-
-def after_length(numbers, place):
-    between(take(numbers, place), LEAST, GREATEST)
-    return place + 1
-
-
-def after_upto(numbers, place, greatest):
-    between(take(numbers, place), 0, greatest)
-    return place + 1
-
-
-def after_five(numbers, place):
-    place = after_length(numbers, place)
-    for step in range(2):
-        place = after_upto(numbers, after_length(numbers, place), 3)
-    return place
-
-
-def after_list(numbers, place, deep, no_leaders):
-    """Where the list at a place ends, or Bad. deep: how many things stand around it."""
-    count = take(numbers, place)
-    between(count, 0, len(numbers))
-    place += 1
-    for step in range(count):
-        place = after_thing(numbers, place, deep, no_leaders)
-    return place
-
-
-def after_thing(numbers, place, deep, no_leaders):
-    kind = between(take(numbers, place), 0, 11)
-    place += 1
-    if kind in (3, 6, 7, 8, 10) and deep == 8:
-        raise Bad()
-    if kind == 0:
-        place = after_upto(numbers, place, 65535)
-        for step in range(3):
-            place = after_length(numbers, place)
-    elif kind in (1, 4):
-        place = after_length(numbers, place)
-    elif kind == 2:
-        place = after_five(numbers, place)
-    elif kind == 3:
-        place = after_upto(numbers, after_five(numbers, place), 2)
-        if no_leaders or take(numbers, place) not in (5, 6):
-            raise Bad()
-        place = after_thing(numbers, place, deep + 1, True)
-    elif kind == 5:
-        for step in range(3):
-            told_side = take(numbers, place)
-            place = after_upto(numbers, place, 1)
-            if told_side:
-                place = after_length(numbers, place)
-    elif kind == 6:
-        place = after_upto(numbers, place, 1)
-        for step in range(3):
-            place = after_length(numbers, place)
-        place = after_upto(numbers, place, 3)
-        between(take(numbers, place), 1 - 2 ** 60, 2 ** 60 - 1)
-        between(take(numbers, place + 1), 1, 2 ** 60 - 1)
-        place = after_list(numbers, after_length(numbers, place + 2), deep + 1, no_leaders)
-    elif kind == 7:
-        for step in range(3):
-            place = after_list(numbers, place, deep + 1, no_leaders)
-    elif kind == 8:
-        place = after_list(numbers, place, deep + 1, no_leaders)
-    elif kind == 10:
-        place = after_five(numbers, after_upto(numbers, place, 255))
-        for step in range(2):
-            place = after_length(numbers, place)
-        place = after_list(numbers, place, deep + 1, no_leaders)
-    else:
-        place = after_upto(numbers, place, 255 if kind == 9 else 65535)
-    return place
-
-
-def is_right(numbers):
-    try:
-        return after_list(numbers, 0, 0, False) == len(numbers)
-    except Bad:
-        return False
-
-
-def split(numbers):
-    """The numbers of each thing of a right list."""
-    things = []
-    place = 1
-    for step in range(numbers[0]):
-        end = after_thing(numbers, place, -100, False)
-        things.append(numbers[place:end])
-        place = end
-    return things
-
-
-def sides(thing):
-    """Width, height, depth of a rule or box, in themselves."""
-    if thing[0] == 6:
-        return thing[2:5]
-    rest = thing[1:]
-    found = []
-    for step in range(3):
-        if rest[0]:
-            found.append(rest[1])
-            rest = rest[2:]
-        else:
-            found.append(0)
-            rest = rest[1:]
-    return found
-
-
-def in_row(thing):
-    kind = thing[0]
-    if kind == 0:
-        return thing[2:]
-    if kind in (1, 2):
-        return [thing[1], 0, 0]
-    if kind == 3:
-        return [thing[1]] + in_row(thing[7:])[1:]
-    if kind == 5:
-        return sides(thing)
-    if kind == 6:
-        width, height, depth = sides(thing)
-        return [width, height - thing[8], depth + thing[8]]
-    if kind == 7:
-        first = after_list(thing, 1, -100, False)
-        return row(thing[after_list(thing, first, -100, False):])
-    return [0, 0, 0]
-
-
-def row(numbers):
-    parts = [in_row(thing) for thing in split(numbers)]
-    return [sum(part[0] for part in parts)] + [max([0] + [part[at] for part in parts]) for at in (1, 2)]
-
-
-def column(numbers, greatest):
-    things = split(numbers)
-    wide = [0]
-    total = 0
-    for thing in things:
-        inner = thing[7:] if thing[0] == 3 else thing
-        if inner[0] in (5, 6):
-            wide.append(sides(inner)[0] + (inner[8] if inner[0] == 6 else 0))
-        if thing[0] in (5, 6):
-            total += sum(sides(thing)[1:])
-        if thing[0] in (1, 2, 3):
-            total += thing[1]
-    last = [thing for thing in things if thing[0] in (1, 2, 3, 5, 6)][-1:]
-    depth = sides(last[0])[2] if last and last[0][0] in (5, 6) else 0
-    if 0 <= greatest < depth:
-        depth = greatest
-    return [max(wide), total - depth, depth]
-
-
-def setting(numbers, more):
-    """The setting's three numbers, and what's said."""
-    if more == 0:
-        return [0, 0, 1], [0, 0]
-    at = 2 if more > 0 else 4
-    totals = {order: 0 for order in range(4)}
-    for thing in split(numbers):
-        if thing[0] in (2, 3):
-            totals[thing[at + 1]] += thing[at]
-    able = [order for order in totals if totals[order] > 0]
-    if not able:
-        return [0, 0, 1], ([1, 10000] if more > 0 else [3, -more])
-    order = max(able)
-    total = totals[order]
-    if order:
-        return [order, more, total], [0, 0]
-    if -more > total:
-        return [0, -total, total], [3, -more - total]
-    bad = min(10000, (100 * abs(more) ** 3) // total ** 3)
-    return [0, more, total], ([1 if more > 0 else 2, bad] if bad else [0, 0])
-
-
-class Second:
-    """The second reckoning's eight lists."""
-
-    def __init__(self):
-        self.lists = {k: [0] for k in range(8)}
-
-    def answer(self, call):
-        number, given = call[0], call[1:]
-        if number == 0:
-            return self.put(given[0], given[2:])
-        places = {1: (0,), 2: (0,), 3: (0, 1), 4: (0, 2), 5: (0, 1)}[number]
-        if any(given[place] > 7 for place in places):
-            return [-1]
-        if number == 1:
-            return self.lists[given[0]]
-        if number == 2:
-            if given[1] > 1:
-                return [-1]
-            return column(self.lists[given[0]], -1) if given[1] else row(self.lists[given[0]])
-        if number == 3:
-            return self.pack(*given)
-        if number == 4:
-            return self.unpack(*given)
-        joined = self.lists[given[0]] + self.lists[given[1]][1:]
-        joined[0] += self.lists[given[1]][0]
-        return self.keep(given[0], joined, [joined[0]])
-
-    def keep(self, k, numbers, answer):
-        if len(numbers) > 2000 or not is_right(numbers):
-            return [-6]
-        self.lists[k] = numbers
-        return answer
-
-    def put(self, k, numbers):
-        if k > 7:
-            return [-1]
-        if not is_right(numbers):
-            return [-3]
-        return self.keep(k, numbers, numbers[:1])
-
-    def pack(self, k, j, kind, how, a, m):
-        if kind > 2 or how > 2 or abs(a) > GREATEST or abs(m) > GREATEST:
-            return [-1]
-        numbers = self.lists[k]
-        sizes = column(numbers, m) if kind else row(numbers)
-        along = 1 if kind else 0
-        more = [0, a - sizes[along], a][how]
-        sizes[along] += more
-        if kind == 2:
-            first = split(numbers)[:1]
-            height = sides(first[0])[1] if first and first[0][0] in (5, 6) else 0
-            sizes[1:] = [height, sizes[1] + sizes[2] - height]
-        glue_set, said = setting(numbers, more)
-        return self.keep(j, [1, 6, along] + sizes + glue_set + [0] + numbers, said)
-
-    def unpack(self, k, i, j):
-        things = split(self.lists[k])
-        if i >= len(things) or things[i][0] != 6:
-            return [-4]
-        self.lists[j] = things[i][9:]
-        return self.lists[j][:1]
+from second import Second, costs, split
 
 
 class Maker:
@@ -325,29 +70,87 @@ class Maker:
         return numbers[:150] if self.random.randrange(8) == 0 else numbers
 
     def k(self):
-        return 8 if self.random.randrange(60) == 0 else self.random.randrange(4)
+        """A list that's asked; mostly one of those that are full at the beginning."""
+        return 8 if self.random.randrange(60) == 0 else self.random.choice([0, 0, 0, 1, 1, 2, 3])
+
+    def j(self):
+        """A list that's filled."""
+        return 8 if self.random.randrange(60) == 0 else self.random.choice([0, 1, 2, 2, 3, 3, 4])
 
     def choice(self, choices):
         return choices if self.random.randrange(50) == 0 else self.random.randrange(choices)
 
-    def call(self, room):
-        number = self.random.choice([0, 0, 0, 1, 2, 3, 3, 3, 4, 5])
+    def line(self):
+        """A thing of a column as it's often set."""
+        pick = self.random.randrange(12)
+        if pick < 4:
+            return box(glyph(self.random.randint(0, 9)), width=20, height=self.random.randint(0, 12),
+                       depth=self.random.randint(0, 3), shift=self.random.choice([0, 0, 3]))
+        if pick < 8:
+            return glue(self.random.randint(0, 4), self.random.randint(0, 6), self.random.choice([0, 0, 0, 1]),
+                        self.random.randint(0, 3), 0)
+        if pick == 8:
+            return penalty(self.random.choice([0, 50, -50, 200, 9999, 10000, 10001, -9999, -10000, -10001]))
+        if pick == 9:
+            return kern(self.random.randint(-3, 6))
+        return self.thing(2)
+
+    def column_numbers(self):
+        return listed(*[self.line() for step in range(self.random.randint(0, 25))])
+
+    def spaced_numbers(self):
+        """A box with leaders in it, mostly of boxes that may be drawn some times."""
+        things = []
+        for step in range(self.random.randint(1, 4)):
+            things.append(kern(self.random.randint(-40, 40)))
+            repeated = box(anchor(step), width=self.random.randint(-1, 12), height=self.random.randint(-1, 9),
+                           depth=self.random.randint(-1, 9), shift=self.random.randint(-2, 2))
+            things.append(leaders(self.random.choice([repeated, repeated, self.rule()]), self.random.randrange(3),
+                                  five(self.random.randint(-5, 150), self.random.randint(-1, 9), 0,
+                                       self.random.randint(-1, 9), 0)))
+            things.append(self.thing(2))
+        return listed(box(*things, direction=self.random.randrange(2), width=30, height=40, depth=2, order=0,
+                          numerator=self.random.randint(-20, 20), denominator=self.random.randint(1, 9)))
+
+    def put(self, k):
+        make = self.random.choice([self.numbers, self.numbers, self.column_numbers, self.spaced_numbers])
+        return put_numbers(k, make())
+
+    def call(self):
+        number = self.random.choice([0, 1, 2, 3, 3, 4, 4, 5, 6, 6, 7, 7, 8, 8, 8, 9, 9, 10])
         if number == 0:
-            numbers = self.numbers()
-            return put_numbers(self.k(), numbers) if len(numbers) < room else told(self.k())
+            return self.put(self.j())
         if number == 3:
-            a = GREATEST + 1 if self.random.randrange(80) == 0 else self.length()
-            return pack(self.k(), self.k(), self.choice(3), self.choice(3), a, self.length())
+            return pack(self.k(), self.j(), self.choice(3), self.choice(3), self.asked(), self.length())
         if number == 4:
-            return unpack(self.k(), self.random.choice([0, 0, 0, 1, 2, 9]), self.k())
-        return {1: told(self.k()), 2: size(self.k(), self.choice(2)), 5: join(self.k(), self.k())}[number]
+            return unpack(self.k(), self.i(), self.j())
+        if number == 6:
+            return shift(self.k(), self.i(), self.asked())
+        if number == 7:
+            return fit(self.k(), self.random.randrange(9), self.asked(), self.asked())
+        if number == 8:
+            return places(self.k(), self.i(), self.asked(), self.asked())
+        if number == 9:
+            g = self.five()
+            if self.random.randrange(30) == 0:
+                g[self.random.randrange(5)] += self.random.choice([4, -4, GREATEST])
+            return cut(self.k(), self.j(), self.j(), self.asked(), self.length(), g[:4 + self.random.randrange(30)])
+        return {1: told(self.k()), 2: size(self.k(), self.choice(2)), 5: join(self.j(), self.k()),
+                10: move(self.k(), self.j())}[number]
+
+    def i(self):
+        return self.random.choice([0, 0, 0, 0, 1, 2, 9])
+
+    def asked(self):
+        """A length, now and then one that's beyond what it can be."""
+        return self.random.choice([GREATEST + 1, LEAST - 1]) if self.random.randrange(80) == 0 else self.length()
 
     def calls(self):
-        calls = []
-        room = 2800
-        for step in range(self.random.randint(1, 16)):
-            calls.append(self.call(room))
-            room -= len(calls[-1])
+        calls = [self.put(0), self.put(1)] if self.random.randrange(5) else []
+        for step in range(self.random.randint(1, 14)):
+            calls.append(self.call())
+        while sum(len(call) for call in calls) > 3000:
+            calls.remove(max(calls, key=len))
         return calls
 
 
@@ -355,16 +158,21 @@ class Histories(unittest.TestCase):
 
     def test_against_the_second_reckoning(self):
         refused = {}
-        for seed in range(1500):
+        answered = {number: 0 for number in range(11)}
+        for seed in range(2500):
             calls = Maker(seed).calls()
             second = Second()
             expected = [second.answer(call) for call in calls]
             self.assertEqual(run(*calls), expected, seed)
             for call, answer in zip(calls, expected):
-                if len(answer) == 1 and answer[0] < 0:
+                if len(answer) == 1 and answer[0] in (-1, -3, -4, -6):
                     refused[(call[0], answer[0])] = True
-        # the histories are of use only if they come by every refusal that they can
-        every = {(0, -1), (0, -3), (1, -1), (2, -1), (3, -1), (3, -6), (4, -1), (4, -4), (5, -1)}
+                else:
+                    answered[call[0]] += 1
+        # the histories are of use only if they come by every call, and by every refusal that they can
+        self.assertGreater(min(answered.values()), 300)
+        every = {(0, -1), (0, -3), (1, -1), (2, -1), (3, -1), (3, -6), (4, -1), (4, -4), (5, -1), (6, -1), (6, -4),
+                 (7, -1), (7, -4), (8, -1), (8, -4), (9, -1), (10, -1)}
         self.assertLessEqual(every, set(refused))
 
     def test_packed_and_unpacked_a_list_is_as_it_was(self):
@@ -377,6 +185,102 @@ class Histories(unittest.TestCase):
             self.assertEqual(answers[4], numbers)
             if len(answers[1]) == 2:
                 self.assertEqual(answers[2:4], [numbers[:1], numbers])
+
+
+class Cuts(unittest.TestCase):
+
+    def histories(self):
+        """Columns, the heights and depths they're cut to, and the upper parts and the rests."""
+        for seed in range(1500):
+            maker = Maker(seed)
+            numbers = maker.column_numbers()
+            v, d = maker.random.randint(-5, 90), maker.random.choice([-1, 0, 1, 2, 50])
+            answers = run(put_numbers(0, numbers), cut(0, 1, 2, v, d, five(7)), told(1), told(2))
+            if answers[1] != [-6]:
+                yield split(numbers), v, d, answers[1][0], split(answers[2]), split(answers[3])
+
+    def test_against_the_second_reckoning(self):
+        for seed in range(1500):
+            maker = Maker(seed)
+            calls = [put_numbers(0, maker.column_numbers())]
+            for step in range(4):
+                calls += [cut(0, 1, 0, maker.random.randint(-5, 60), maker.random.choice([-1, 0, 2]), five(7, 1, 2)),
+                          told(1), told(0)]
+            second = Second()
+            self.assertEqual(run(*calls), [second.answer(call) for call in calls], seed)
+
+    def test_all_but_what_is_dropped_in_order(self):
+        for things, v, d, told_penalty, upper, rest in self.histories():
+            laid = [at for at, thing in enumerate(rest) if thing[0] in (5, 6)][:1]
+            together = upper + [thing for at, thing in enumerate(rest) if [at + 1] != laid]
+            left = list(together)
+            for thing in things:
+                if left and thing == left[0]:
+                    left.pop(0)
+                else:
+                    self.assertIn(thing[0], (1, 2, 3, 4))
+            self.assertEqual(left, [])
+
+    def test_no_break_looked_at_costs_less_than_the_one_taken(self):
+        several = 0
+        for things, v, d, told_penalty, upper, rest in self.histories():
+            counted = costs(things, v, d)
+            # where nothing is left for the rest, the upper part doesn't tell where the break was
+            if rest and counted:
+                several += len(counted) > 1
+                taken = [cost for cost, count, cost_told in counted if count == len(upper)]
+                self.assertEqual(taken, [min(counted)[0]])
+                self.assertIn((taken[0], len(upper), told_penalty), counted)
+        self.assertGreater(several, 100)
+
+
+class Places(unittest.TestCase):
+
+    def test_against_the_second_reckoning(self):
+        for seed in range(1500):
+            maker = Maker(seed)
+            calls = [put_numbers(0, maker.spaced_numbers()), places(0, 0, 3, -4), pack(0, 1, 1, 1, 90, 0),
+                     places(1, 0, 0, 0)]
+            second = Second()
+            self.assertEqual(run(*calls), [second.answer(call) for call in calls], seed)
+
+    def test_where_glue_could_be_set_the_end_is_where_it_should_be(self):
+        seen = 0
+        for seed in range(600):
+            maker = Maker(seed)
+            things = [maker.line() for step in range(12)] + [glue(1, 9, 0, 90, 0), anchor(65535)]
+            wanted = maker.random.randint(20, 200)
+            direction = seed % 2
+            answers = run(put_numbers(0, listed(*things)), pack(0, 1, direction, 1, wanted, 0), places(1, 0, 5, 6))
+            # not kept, too full, or perhaps loose by none
+            if answers[1][0] not in (-6, 3) and answers[1] != [1, 10000]:
+                seen += 1
+                self.assertEqual(answers[2][-4:], [2, 65535, 5, 6] if direction else [2, 65535, 5 + wanted, 6])
+        self.assertGreater(seen, 300)
+
+    def test_each_leaf_is_told_once(self):
+        for seed in range(300):
+            maker = Maker(seed)
+            things = [maker.thing(3, False) for step in range(8)]
+            numbers = last(put_numbers(0, listed(box(*things, direction=seed % 2))), places(0, 0))
+            found = [name for kind, name in named_leaves(numbers)]
+            self.assertEqual(found, names_in(box(*things)))
+
+
+def named_leaves(numbers):
+    """Kinds and names of the glyphs and anchors among leaves."""
+    rest = list(numbers)
+    while rest:
+        if rest[0] != 1:
+            yield rest[0], rest[1]
+        rest = rest[6 if rest[0] == 1 else 4:]
+
+
+def names_in(thing):
+    """The names of glyphs and anchors in a box, and in boxes within it."""
+    if thing[0] in (0, 11):
+        return [thing[1]]
+    return sum([names_in(inner) for inner in split(thing[9:])], []) if thing[0] == 6 else []
 
 
 if __name__ == "__main__":

@@ -187,6 +187,42 @@ class Form(unittest.TestCase):
         for where, node in self.nodes(ast.Attribute):
             self.assertIn(node.attr, methods | values | set(METHODS), where)
 
+    def test_tops_are_only_read(self):
+        """L15"""
+        for name, tree in self.trees.items():
+            kept = {target.id for top in tree.body if isinstance(top, ast.Assign) for target in top.targets
+                    if isinstance(top.value, (ast.List, ast.Dict))}
+            read = [node.value for node in ast.walk(tree)
+                    if isinstance(node, ast.Subscript) and isinstance(node.ctx, ast.Load)]
+            for node in ast.walk(tree):
+                if isinstance(node, ast.Name) and isinstance(node.ctx, ast.Load) and node.id in kept:
+                    self.assertTrue(any(node is other for other in read), f"{name}:{node.lineno}")
+
+    def test_walked_at_once(self):
+        """L23"""
+        walked = [node.iter for where, node in self.nodes((ast.For, ast.comprehension))]
+        for where, node in self.nodes(ast.Call):
+            called = getattr(node.func, "id", getattr(node.func, "attr", ""))
+            if called in ("zip", "enumerate", "reversed", "range", "items", "keys", "values"):
+                self.assertTrue(any(node is other for other in walked), where)
+
+    def test_no_sets_and_no_lambdas(self):
+        """L13, L24: none are needed"""
+        for where, node in self.nodes((ast.Set, ast.Lambda)):
+            self.fail(where)
+        for where, node in self.nodes(ast.Name):
+            self.assertNotIn(node.id, ("set", "frozenset"), where)
+
+    def test_errors(self):
+        """L19: an error is made where it's raised, and the program's own alone are taken"""
+        own = {node.name for node in self.trees["refusals"].body if isinstance(node, ast.ClassDef)}
+        for where, node in self.nodes(ast.Raise):
+            self.assertIsInstance(node.exc, ast.Call, where)
+            self.assertIn(node.exc.func.id, own, where)
+            self.assertTrue(node.cause is None or node.cause.value is None, where)
+        for where, node in self.nodes(ast.ExceptHandler):
+            self.assertIn(node.type.id, own, where)
+
 
 if __name__ == "__main__":
     unittest.main()
